@@ -53,6 +53,17 @@ def pixel(rows, x, y):
     return rows[y][x] == "#"
 
 
+def window(rows, region):
+    """The image of a region, wherever it lies; pixels outside of the image are white."""
+    _, x, y, width, height = region
+    ahead = min(max(-x, 0), width)
+    shown = []
+    for at in range(y, y + height):
+        row = rows[at][max(x, 0):max(x + width, 0)] if 0 <= at < len(rows) else ""
+        shown.append("." * ahead + row + "." * (width - ahead - len(row)))
+    return tuple(shown)
+
+
 def differing(one, other):
     """In how many pixels two images of the same size differ."""
     count = 0

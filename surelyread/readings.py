@@ -86,13 +86,20 @@ def regions(parts, region, reading):
 def regions_by(parts, table, region, reading):
     """The regions of a reading; table has the machines of the parts."""
     found = [region]
+    for piece, inner in pieces_by(parts, table, region, reading):
+        found.extend(regions_by(parts, table, piece, inner))
+    return found
+
+
+def pieces_by(parts, table, region, reading):
+    """The region and the reading of each piece; table has the machines of the parts."""
+    pieces = []
     offset = 0
     for number, size, inner in reading:
         below = table[region[0]][1][number][2]
-        piece = piece_region(parts[region[0]], region, offset, size, below)
-        found.extend(regions_by(parts, table, piece, inner))
+        pieces.append((piece_region(parts[region[0]], region, offset, size, below), inner))
         offset += size
-    return found
+    return pieces
 
 
 def leaves(parts, region, reading):

@@ -31,7 +31,11 @@ INTERFACE = {
     "grammars": "parse_grammar",
     "writing": "grammar_text",
     "strips": "machine machines is_strip",
-    "readings": "fills to_integers from_integers regions leaves price text_of comes_first"}
+    "readings": "fills to_integers from_integers regions leaves price text_of comes_first",
+    "drawing": "draw cost obeys",
+    "needs": "spots look_count needed effort",
+    "best": "allowed best",
+    "several": "first_readings"}
 
 
 def text_of_file(name):

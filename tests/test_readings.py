@@ -4,7 +4,7 @@ from surelyread.errors import BadReading
 from surelyread.grammars import parse_grammar
 from surelyread.readings import (
     comes_first, fills, from_integers, leaves, price, regions, text_of, to_integers)
-from surelyread.strips import is_strip, machines
+from tests.brute import readings
 
 INK = parse_grammar("plain w white; plain b black cost 1; across page = (w 1 to 3 | b 1)*;")
 
@@ -14,32 +14,6 @@ LETTERS = parse_grammar(
     ' across line join "-" = (l cost 100 | i cost 200), (w 1 to 2 cost 300, (l | i))*;'
     ' down page join "/" = line 3 cost 700, (w 1 to 2, line 3)*;'
     " across sheet = page 1 to 9, (w 1, page 1 to 9)*;")
-
-
-def readings(parts, region):
-    """All readings that fill the region, in their order, told by the moves."""
-    part = parts[region[0]]
-    if not is_strip(part):
-        good = part[0] == "plain" or (region[3], region[4]) == (len(part[4][0]), len(part[4]))
-        return [()] if good else []
-    ends, moves = machines(parts)[region[0]]
-    across = part[0] == "across"
-
-    def rests(state, offset):
-        left = region[3 if across else 4] - offset
-        if left == 0:
-            return [()] if ends[state] else []
-        found = []
-        for number, (origin, target, inner, least, most, _) in enumerate(moves):
-            for size in range(least, min(most, left) + 1):
-                if origin == state:
-                    piece = ((inner, region[1] + offset, region[2], size, region[4]) if across else
-                             (inner, region[1], region[2] + offset, region[3], size))
-                    for one in readings(parts, piece):
-                        for rest in rests(target, offset + size):
-                            found.append(((number, size, one),) + rest)
-        return found
-    return rests(0, 0)
 
 
 class Fills(unittest.TestCase):
