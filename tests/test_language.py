@@ -35,7 +35,10 @@ INTERFACE = {
     "drawing": "draw cost obeys",
     "needs": "spots look_count needed effort",
     "best": "allowed best",
-    "several": "first_readings"}
+    "several": "first_readings",
+    "certain": "margin least_with sure",
+    "bounds": "all_bounds right certifies",
+    "learned": "train distance"}
 
 
 def text_of_file(name):
