@@ -20,12 +20,11 @@ def inside(region, other):
 
 def costs_with(costs, asked, least):
     """The costs with another least one of the region asked."""
+    # Nothing depends on the region asked but what a reading can have around it.
+    known = {region: costs.regions[region] for region in costs.regions if not inside(asked, region)}
+    known[asked] = least
     changed = Costs(costs.looks, costs.rows, costs.wishes)
-    # Only what a reading can have around the region asked depends on it.
-    for region in costs.regions:
-        if not inside(asked, region):
-            changed.regions[region] = costs.regions[region]
-    changed.regions[asked] = least
+    changed.regions = known
     return changed
 
 

@@ -84,7 +84,8 @@ def needed_strips(looks, region):
     found = {region: True}
     waiting = [region]
     while waiting:
-        for piece in looks.put_regions(waiting.pop(), True):
+        pieces = looks.put_regions(waiting.pop(), True)
+        for piece in pieces:
             if piece not in found:
                 found[piece] = True
                 waiting.append(piece)
