@@ -31,19 +31,19 @@ class Costs:
         self.parts = looks.parts
         self.looks = looks
         self.rows = rows
-        self.wishes = wishes
-        self.regions = {}
+        self.wished = wishes
+        self.known = {}
         self.rests = {}
 
     def least(self, region):
         """The least cost of the allowed readings of a region."""
-        if region not in self.regions:
-            self.regions[region] = self.least_of(region)
-        return self.regions[region]
+        if region not in self.known:
+            self.known[region] = self.least_of(region)
+        return self.known[region]
 
     def least_of(self, region):
         """The least cost of a region that was not asked before."""
-        if not allowed(self.parts, region, self.wishes):
+        if not allowed(self.parts, region, self.wished):
             return None
         part = self.parts[region[0]]
         if is_strip(part):

@@ -54,7 +54,7 @@ class Checker:
         self.parts = parts
         self.table = machines(parts)
         self.rows = rows
-        self.wishes = wishes
+        self.wished = wishes
         self.told = told_by(bounds)
 
     def good(self, bound):
@@ -64,7 +64,7 @@ class Checker:
         strip = is_strip(self.parts[region[0]])
         if state is not None:
             return not strip or self.good_spot(region, state, offset, least)
-        if not allowed(self.parts, region, self.wishes):
+        if not allowed(self.parts, region, self.wished):
             return True
         if strip:
             return at_most(least, bound_of(self.told, region, 0, 0))

@@ -21,10 +21,10 @@ def inside(region, other):
 def costs_with(costs, asked, least):
     """The costs with another least one of the region asked."""
     # Nothing depends on the region asked but what a reading can have around it.
-    known = {region: costs.regions[region] for region in costs.regions if not inside(asked, region)}
+    known = {region: costs.known[region] for region in costs.known if not inside(asked, region)}
     known[asked] = least
-    changed = Costs(costs.looks, costs.rows, costs.wishes)
-    changed.regions = known
+    changed = Costs(costs.looks, costs.rows, costs.wished)
+    changed.known = known
     return changed
 
 

@@ -3,6 +3,7 @@
 from surelyread.drawing import cost
 from surelyread.pixels import differing, window
 from surelyread.readings import regions
+from surelyread.strips import page_region
 
 
 def train(parts, samples):
@@ -25,7 +26,7 @@ def train(parts, samples):
 
 def page_of(parts, rows):
     """The region of the page of an image."""
-    return (len(parts) - 1, 0, 0, len(rows[0]), len(rows))
+    return page_region(parts, len(rows[0]), len(rows))
 
 
 def majority(images):

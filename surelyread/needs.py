@@ -1,6 +1,6 @@
 """Needed regions: what must be looked at for a region, whatever image and wishes are."""
 
-from surelyread.strips import extent, is_strip, machines, piece_region
+from surelyread.strips import extent, is_strip, machines, page_region, piece_region
 
 
 def reached(machine, end):
@@ -120,5 +120,5 @@ def needed(parts, region):
 def effort(parts, width, height):
     """The number of all looks of all regions that are needed for a page."""
     looks = Looks(parts)
-    page = (len(parts) - 1, 0, 0, width, height)
+    page = page_region(parts, width, height)
     return sum([looks.count_of(strip) for strip in needed_strips(looks, page)])

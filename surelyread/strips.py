@@ -36,6 +36,11 @@ def piece_region(part, region, offset, size, inner):
     return (inner, x, y + offset, width, size)
 
 
+def page_region(parts, width, height):
+    """The region of the page with this width and height."""
+    return (len(parts) - 1, 0, 0, width, height)
+
+
 def list_places(expression):
     """The places of an expression, in the order of the text."""
     if expression[0] == "place":

@@ -38,7 +38,14 @@ INTERFACE = {
     "several": "first_readings",
     "certain": "margin least_with sure",
     "bounds": "all_bounds right certifies",
-    "learned": "train distance"}
+    "learned": "train distance",
+    "gaps": "gap",
+    "grammar": "Grammar",
+    "counting": "how_many cost_counts place_of reading_at",
+    "lexicon": "lexicon run accepts"}
+
+CLASSES = {
+    ("grammar", "Grammar"): "text names regions leaves text_of draw price cost"}
 
 
 def text_of_file(name):
@@ -91,6 +98,13 @@ class Files(unittest.TestCase):
             defined = [node.name for node in TREES[name].body if isinstance(node, DEFINITIONS)]
             for wanted in INTERFACE[name].split():
                 self.assertIn(wanted, defined, name)
+
+    def test_listed_methods_are_defined_in_the_class(self):
+        for (name, wanted), listed in CLASSES.items():
+            bodies = [node.body for node in TREES[name].body
+                      if isinstance(node, ast.ClassDef) and node.name == wanted]
+            methods = [part.name for part in bodies[0] if isinstance(part, ast.FunctionDef)]
+            self.assertEqual([method for method in listed.split() if method not in methods], [])
 
 
 class Imports(unittest.TestCase):
@@ -151,6 +165,13 @@ class Names(unittest.TestCase):
         for name, node in nodes(*DEFINITIONS):
             self.assertNotIn(node.name, dir(builtins), name)
             self.assertNotIn(node.name, UNUSED, name)
+
+    def test_no_name_is_a_method_and_an_attribute(self):
+        methods = {part.name for _, node in nodes(ast.ClassDef) for part in node.body
+                   if isinstance(part, ast.FunctionDef)}
+        for name, node in nodes(ast.Attribute):
+            if isinstance(node.ctx, ast.Store):
+                self.assertNotIn(node.attr, methods, f"{name} {node.lineno}")
 
     def test_only_some_builtins_are_used(self):
         for name, node in nodes(ast.Name):
