@@ -78,6 +78,16 @@ def black(rows, x, y):
     return 0 <= y < len(rows) and 0 <= x < len(rows[0]) and rows[y][x] == "#"
 
 
+def told_by(parts, region, reading):
+    """The text of a reading."""
+    part = parts[region[0]]
+    if not is_strip(part):
+        return part[2]
+    texts = [told_by(parts, (machine_of(parts, region[0])[1][number][2],), inner)
+             for number, _, inner in reading]
+    return part[2].join(filter(None, texts))
+
+
 def drawn_black(part, leaf, x, y):
     return part[4] if part[0] == "plain" else part[4][y - leaf[2]][x - leaf[1]] == "#"
 
