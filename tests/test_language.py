@@ -42,10 +42,16 @@ INTERFACE = {
     "gaps": "gap",
     "grammar": "Grammar",
     "counting": "how_many cost_counts place_of reading_at",
-    "lexicon": "lexicon run accepts"}
+    "lexicon": "lexicon run accepts",
+    "worded": "best_worded",
+    "reader": "Reader",
+    "books": "one_turn learn",
+    "packed": "pack unpack"}
 
 CLASSES = {
-    ("grammar", "Grammar"): "text names regions leaves text_of draw price cost"}
+    ("grammar", "Grammar"): "text names regions leaves text_of draw price cost",
+    ("reader", "Reader"): """patch fix forbid free undo image wishes read readings margin least_with sure
+        margins bounds certifies how_many cost_counts place_of reading_at worded"""}
 
 
 def text_of_file(name):
